@@ -1,0 +1,1 @@
+"""Everycell: arrays made cell by cell, however their making is turned about."""
