@@ -1,0 +1,47 @@
+import importlib
+import inspect
+import unittest
+
+# By each file its functions, with their arguments as the document's interface lists them.
+FUNCTIONS = {
+    "worths": (
+        "is_whole(thing)", "is_number(thing)", "is_worth(thing)", "kind_of_worth(worth)", "is_whole_worth(worth)", "number(top, bottom=1)",
+        "plus(one, other)", "minus(one, other)", "times(one, other)", "least(one, other)", "most(one, other)", "over(one, other)", "is_less(one, other)",
+    ),
+    "names": ("is_name(thing)", "is_letter(thing)", "is_length(thing)", "is_shape(thing)", "is_index_term(thing)"),
+    "expressions": ("kind_of(thing, kinds)", "done(word, worths)", "worth_by(expression, args)", "is_safe(expression)"),
+    "texts": (
+        "look_at_text(thing)", "kinds_by(text)", "ranks_by(text)", "names_of(text)", "letters_of(text)", "deed_of(text, name)", "sources_of(deed)",
+    ),
+    "signs": ("shown(text)", "read(signs)"),
+    "terms": (
+        "constant(number)", "of_name(name)", "added(one, other)", "scaled(term, many)", "taken(one, other)", "put_in(term, by)", "worth_of(term, numbers)",
+        "is_nought(term)", "is_from_nought(term)",
+    ),
+}
+REFUSALS = (
+    "CellError", "NoText", "NoTurn", "NoLengths", "NoInputs", "NoFit", "NoLanes", "NoSigns", "NoStop", "NoOrder", "NoTerm", "NoWorth", "NoProgram", "NoRow",
+    "NoCell", "NoName", "TooMany", "Faulty", "Bare",
+)
+
+
+class Interface(unittest.TestCase):
+    def test_each_function_stands_in_its_file_with_its_arguments(self):
+        for file, functions in FUNCTIONS.items():
+            module = importlib.import_module(f"everycell.{file}")
+            for each in functions:
+                name = each.partition("(")[0]
+                found = getattr(module, name)
+                self.assertEqual(name + str(inspect.signature(found)), each)
+                self.assertEqual(found.__module__, f"everycell.{file}")
+                self.assertTrue(inspect.isfunction(found))
+
+    def test_each_refusal_stands_in_errors(self):
+        module = importlib.import_module("everycell.errors")
+        for name in REFUSALS:
+            self.assertTrue(inspect.isclass(getattr(module, name)), name)
+            self.assertEqual(getattr(module, name).__module__, "everycell.errors")
+
+
+if __name__ == "__main__":
+    unittest.main()
