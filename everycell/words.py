@@ -72,7 +72,8 @@ def read_worth(word):
         return word == "yes"
     top, sign, bottom = word.partition("/")
     one = _read_whole(top)
-    other = _read_whole(bottom) if sign else 1
+    # The - stands ahead of the number, so never within it.
+    other = read_figures(bottom) if sign else 1
     if one is None or other is None or (sign and other == 1):
         return None
     return (one, other)
@@ -106,7 +107,7 @@ def read_expression(words):
 def _read_leaf(word):
     """Tells the arg, number or truth that a word writes, or None."""
     if word.startswith("@"):
-        at = _read_whole(word[1:])
+        at = read_figures(word[1:])
         return None if at is None else ("arg", at)
     worth = read_worth(word)
     if worth is None:
