@@ -18,6 +18,9 @@ FUNCTIONS = {
         "constant(number)", "of_name(name)", "added(one, other)", "scaled(term, many)", "taken(one, other)", "put_in(term, by)", "worth_of(term, numbers)",
         "is_nought(term)", "is_from_nought(term)",
     ),
+    "shapes": ("wishes_of(text)", "fits(text)", "least_lengths(text)", "look_at_fit(text)", "shapes_by(text)"),
+    "rules": ("rule_term(text, name, cell, *, around=0)", "is_safe_name(text, name)", "worth_at(term, numbers, ask, *, name=None, cell=())"),
+    "plain": ("plain_of(text, lengths, inputs)",),
 }
 REFUSALS = (
     "CellError", "NoText", "NoTurn", "NoLengths", "NoInputs", "NoFit", "NoLanes", "NoSigns", "NoStop", "NoOrder", "NoTerm", "NoWorth", "NoProgram", "NoRow",

@@ -1,6 +1,12 @@
-"""Things of many kinds, to be handed in where anything may be, and expressions and texts made by chance."""
+"""Things of many kinds, to be handed in where anything may be; expressions and texts made by chance; and what texts
+that fit make, by the document's words alone, for tests to hold the program beside."""
 
 from fractions import Fraction
+from itertools import product
+
+from everycell.errors import NoText
+from everycell.rules import worth_at
+from everycell.terms import added, is_from_nought, taken
 
 GREAT = 10 ** 40 + 7
 # The greatest number that is read where it is written.
@@ -196,3 +202,379 @@ DEEDS = {
     "map": any_map, "spread": any_spread, "turn": any_turn, "part": any_part, "join": any_join,
     "fold": any_fold, "run": any_run, "where": any_where, "pick": any_pick, "put": any_put,
 }
+
+
+# A text that is none, by its part and number, though it has the form of one.
+NO_TEXTS = (
+    (((("A", "number", ()),), ()), "inputs", 0), (((("a", "number", ()), ("a", "number", ())), ()), "inputs", 1),
+    (((("a", "number", ()),), (("b", ("turn", "c", ())),)), "rows", 0),
+    (((("a", "number", ()),), (("b", ("turn", "a", ())), ("b", ("turn", "a", ())))), "rows", 1),
+    (((("a", "number", tuple((0, ((letter, 1),)) for letter in "kmn")),), (("b", ("count", ((0, (("y", 1),)), (0, (("z", 1),))), 0)),)), "letters", None),
+)
+
+
+def assert_no_text_first(case, ask):
+    """What is no text, of any kind, is refused by a def that takes one, with the part and number told."""
+    for thing in many_things():
+        with case.assertRaises(NoText, msg=repr(thing)[:80]) as caught:
+            ask(thing)
+        case.assertEqual((caught.exception.part, caught.exception.number), ("text", None))
+    for thing, part, number in NO_TEXTS:
+        with case.assertRaises(NoText) as caught:
+            ask(thing)
+        case.assertEqual((caught.exception.part, caught.exception.number), (part, number))
+
+
+# Texts by chance that fit, and what they make.
+
+NOUGHT = (0, ())
+N = (0, (("n", 1),))
+LENGTHS = (NOUGHT, (1, ()), (2, ()), (3, ()), N, N, N, (0, (("m", 1),)), (1, (("n", 1),)), (0, (("n", 2),)), (0, (("m", 1), ("n", 1))))
+
+
+def any_small_shape(chance, rank):
+    return tuple(chance.choice(LENGTHS) for _ in range(rank))
+
+
+class Growing:
+    """A text by chance that fits, row by row, with the kind and shape of each name."""
+
+    def __init__(self, chance, rows, deep=3):
+        self.chance, self.deep = chance, deep
+        self.known = {}
+        self.names = chance.sample(["a", "b", "c", "d", "e", "f", "g", "h", "k", "m", "n", "p", "q", "r", "x", "y", "z", "zz", "v", "i"], 20)
+        self.inputs = tuple(self.input_row() for _ in range(chance.randint(1, 3)))
+        self.rows = ()
+        for _ in range(rows):
+            self.rows += (self.row(),)
+
+    def text(self):
+        return (self.inputs, self.rows)
+
+    def input_row(self):
+        name, kind = self.names.pop(), self.chance.choice(["number", "number", "truth"])
+        shape = any_small_shape(self.chance, self.chance.choice([0, 1, 1, 2, 2]))
+        self.known[name] = (kind, shape)
+        return (name, kind, shape)
+
+    def row(self):
+        words = list(GROWING)
+        found = None
+        while found is None:
+            found = GROWING[self.chance.choice(words)](self)
+        name = self.names.pop()
+        self.known[name] = found[1]
+        return (name, found[0])
+
+    def one_of(self, fits):
+        names = [name for name, (kind, shape) in self.known.items() if fits(kind, shape)]
+        return self.chance.choice(names[-4:]) if names else None
+
+    def map(self):
+        one = self.one_of(lambda kind, shape: True)
+        sources = [one] + [self.one_of(lambda kind, shape: shape == self.known[one][1]) for _ in range(self.chance.randint(0, 2))]
+        kind = self.chance.choice(["number", "number", "truth"])
+        return ("map", any_expression(self.chance, kind, self.deep, [self.known[name][0] for name in sources]), tuple(sources)), (kind, self.known[one][1])
+
+    def count(self):
+        rank = self.chance.choice([1, 1, 2, 3])
+        shape = any_small_shape(self.chance, rank)
+        return ("count", shape, self.chance.randrange(rank)), ("number", shape)
+
+    def spread(self):
+        source = self.one_of(lambda kind, shape: len(shape) < 3)
+        if source is None:
+            return None
+        kind, shape = self.known[source]
+        axis, length = self.chance.randint(0, len(shape)), self.chance.choice(LENGTHS)
+        return ("spread", source, axis, length), (kind, (*shape[:axis], length, *shape[axis:]))
+
+    def turn(self):
+        source = self.one_of(lambda kind, shape: len(shape) > 1)
+        if source is None:
+            return None
+        kind, shape = self.known[source]
+        order = tuple(self.chance.sample(range(len(shape)), len(shape)))
+        return ("turn", source, order), (kind, tuple(shape[axis] for axis in order))
+
+    def part(self):
+        source = self.one_of(lambda kind, shape: len(shape) > 0)
+        if source is None:
+            return None
+        kind, shape = self.known[source]
+        axis = self.chance.randrange(len(shape))
+        pairs = [(begin, many) for begin in LENGTHS for many in LENGTHS if is_from_nought(taken(taken(shape[axis], begin), many))]
+        begin, many = self.chance.choice(pairs)
+        return ("part", source, axis, begin, many), (kind, (*shape[:axis], many, *shape[axis + 1:]))
+
+    def join(self):
+        one = self.one_of(lambda kind, shape: len(shape) > 0)
+        if one is None:
+            return None
+        kind, shape = self.known[one]
+        axis = self.chance.randrange(len(shape))
+        other = self.one_of(lambda own, its: own == kind and len(its) == len(shape) and all(its[at] == shape[at] for at in range(len(its)) if at != axis))
+        length = added(shape[axis], self.known[other][1][axis])
+        # Else arrays would soon be greater than a test has time for.
+        return (("join", one, other, axis), (kind, (*shape[:axis], length, *shape[axis + 1:]))) if length[0] < 5 and sum(many for _, many in length[1]) < 4 else None
+
+    def run(self, word="run"):
+        source = self.one_of(lambda kind, shape: len(shape) > 0)
+        if source is None:
+            return None
+        of, shape = self.known[source]
+        kind = self.chance.choice(["number", "number", "truth"])
+        axis = self.chance.randrange(len(shape))
+        deed = (word, any_expression(self.chance, kind, self.deep, [kind, of]), any_worth(self.chance, kind), source, axis)
+        return deed, (kind, shape if word == "run" else (*shape[:axis], *shape[axis + 1:]))
+
+    def fold(self):
+        return self.run("fold")
+
+    def where(self):
+        truths = self.one_of(lambda kind, shape: kind == "truth")
+        if truths is None:
+            return None
+        one = self.one_of(lambda kind, shape: shape == self.known[truths][1])
+        other = self.one_of(lambda kind, shape: (kind, shape) == self.known[one])
+        return ("where", truths, one, other), self.known[one]
+
+    def pick(self):
+        source = self.one_of(lambda kind, shape: len(shape) > 0)
+        if source is None:
+            return None
+        kind, shape = self.known[source]
+        numbers = self.one_of(lambda own, its: own == "number" and len(its) + len(shape) - 1 <= 3)
+        return None if numbers is None else (("pick", source, numbers), (kind, (*self.known[numbers][1], *shape[1:])))
+
+    def put(self):
+        source = self.one_of(lambda kind, shape: len(shape) == 1)
+        numbers = self.one_of(lambda kind, shape: kind == "number" and len(shape) == 1)
+        if source is None or numbers is None:
+            return None
+        kind = self.known[source][0]
+        values = self.one_of(lambda own, its: (own, its) == (kind, self.known[numbers][1]))
+        if values is None:
+            return None
+        expression = any_expression(self.chance, kind, self.deep, [kind, kind]) if self.chance.random() < 0.5 else None
+        return ("put", source, numbers, values, expression), self.known[source]
+
+
+GROWING = {
+    "map": Growing.map, "count": Growing.count, "spread": Growing.spread, "turn": Growing.turn, "part": Growing.part, "join": Growing.join,
+    "fold": Growing.fold, "run": Growing.run, "where": Growing.where, "pick": Growing.pick, "put": Growing.put,
+}
+
+
+def any_fitting(chance, rows=None, deep=3):
+    """A text by chance that fits, and a dict from its names to tuples (kind, shape)."""
+    growing = Growing(chance, chance.randint(0, 7) if rows is None else rows, deep)
+    return growing.text(), growing.known
+
+
+def sizes_of(shape, lengths):
+    return tuple(const + sum(many * lengths[name] for name, many in parts) for const, parts in shape)
+
+
+def cells_of(sizes):
+    return list(product(*[range(size) for size in sizes]))
+
+
+def any_inputs(chance, text, lengths, whole=0.7):
+    """Arrays by chance of the text's inputs, many of whose numbers are small whole ones, that may be picked at."""
+    def worth(kind):
+        return (chance.randint(0, 3), 1) if kind == "number" and chance.random() < whole else any_worth(chance, kind)
+    return {name: {cell: worth(kind) for cell in cells_of(sizes_of(shape, lengths))} for name, kind, shape in text[0]}
+
+
+class Faulted(Exception):
+    """What a cell comes to that has no worth: a fault with its word, or what it asked for in vain."""
+
+
+def value_of(worth):
+    return worth if isinstance(worth, bool) else Fraction(*worth)
+
+
+def worth_of_value(value):
+    return value if isinstance(value, bool) else (value.numerator, value.denominator)
+
+
+def value_by(expression, args):
+    """The value of an expression by its args' values."""
+    word = expression[0]
+    if word == "arg":
+        return args[expression[1]]
+    if word in ("number", "truth"):
+        return expression[1] if word == "truth" else Fraction(expression[1], expression[2])
+    if word == "if":
+        return value_by(expression[2 if value_by(expression[1], args) else 3], args)
+    parts = [value_by(part, args) for part in expression[1:]]
+    if word == "over" and parts[1] == 0:
+        raise Faulted("fault", "nought")
+    return {
+        "plus": lambda a, b: a + b, "minus": lambda a, b: a - b, "times": lambda a, b: a * b, "over": lambda a, b: a / b, "least": lambda a, b: min(a, b),
+        "most": lambda a, b: max(a, b), "less": lambda a, b: a < b, "like": lambda a, b: a == b, "not": lambda a: not a, "and": lambda a, b: a and b,
+        "or": lambda a, b: a or b,
+    }[word](*parts)
+
+
+class Lazily(list):
+    """Args of which each is asked for where it stands, and not ahead."""
+
+    def __init__(self, asks):
+        super().__init__(asks)
+
+    def __getitem__(self, at):
+        return list.__getitem__(self, at)()
+
+
+def value_of_cell(deed, cell, shapes, lengths, ask):
+    """The value of a row's cell by its deed, as 2.1 tells it, of what an ask of names and cells tells."""
+    word = deed[0]
+    if word == "map":
+        return value_by(deed[1], Lazily([lambda name=name: ask(name, cell) for name in deed[2]]))
+    if word == "count":
+        return Fraction(cell[deed[2]])
+    if word == "spread":
+        return ask(deed[1], cell[:deed[2]] + cell[deed[2] + 1:])
+    if word == "turn":
+        at = [None] * len(cell)
+        for axis, number in enumerate(cell):
+            at[deed[2][axis]] = number
+        return ask(deed[1], tuple(at))
+    if word == "part":
+        return ask(deed[1], moved(cell, deed[2], sizes_of([deed[3]], lengths)[0]))
+    if word == "join":
+        length = sizes_of([shapes[deed[1]][deed[3]]], lengths)[0]
+        return ask(deed[1], cell) if cell[deed[3]] < length else ask(deed[2], moved(cell, deed[3], -length))
+    if word in ("fold", "run"):
+        return value_of_fold(deed, cell, shapes, lengths, ask)
+    if word == "where":
+        return ask(deed[2 if ask(deed[1], cell) else 3], cell)
+    if word == "pick":
+        rank = len(shapes[deed[2]])
+        number = ask(deed[2], cell[:rank])
+        if number not in range(sizes_of(shapes[deed[1]], lengths)[0]):
+            raise Faulted("fault", "pick")
+        return ask(deed[1], (int(number), *cell[rank:]))
+    return value_of_put(deed, cell, shapes, lengths, ask)
+
+
+def moved(cell, axis, far):
+    return cell[:axis] + (cell[axis] + far,) + cell[axis + 1:]
+
+
+def value_of_fold(deed, cell, shapes, lengths, ask):
+    word, expression, begin, source, axis = deed
+    far = value_of(begin)
+    many = sizes_of(shapes[source], lengths)[axis] if word == "fold" else cell[axis] + 1
+    for number in range(many):
+        behind = cell[axis:] if word == "fold" else cell[axis + 1:]
+        far = value_by(expression, [far, ask(source, (*cell[:axis], number, *behind))])
+    return far
+
+
+def value_of_put(deed, cell, shapes, lengths, ask):
+    _, source, numbers, values, expression = deed
+    far, many = ask(source, cell), 0
+    for number in range(sizes_of(shapes[numbers], lengths)[0]):
+        if ask(numbers, (number,)) == cell[0]:
+            many += 1
+            if expression is None and many == 2:
+                raise Faulted("fault", "twice")
+            value = ask(values, (number,))
+            far = value if expression is None else value_by(expression, [far, value])
+    return far
+
+
+def outcomes(text, known, lengths, inputs):
+    """What each cell of each name comes to, whatever faults ahead: a worth, ("fault", word) or ("lost", name, cell)."""
+    shapes = {name: shape for name, (_, shape) in known.items()}
+    told = {name: {cell: ("worth", inputs[name][cell]) for cell in cells_of(sizes_of(shapes[name], lengths))} for name, _, _ in text[0]}
+
+    def ask(name, cell):
+        found = told[name][cell]
+        if found[0] != "worth":
+            raise Faulted("lost", name, cell)
+        return value_of(found[1])
+
+    for name, deed in text[1]:
+        told[name] = {}
+        for cell in cells_of(sizes_of(shapes[name], lengths)):
+            try:
+                told[name][cell] = ("worth", worth_of_value(value_of_cell(deed, cell, shapes, lengths, ask)))
+            except Faulted as fault:
+                told[name][cell] = fault.args
+    return told
+
+
+def plain_by_words(text, known, lengths, inputs):
+    """What the plain reader tells."""
+    arrays = {}
+    for name, array in outcomes(text, known, lengths, inputs).items():
+        arrays[name] = {}
+        for cell, told in array.items():
+            if told[0] != "worth":
+                return arrays, (name, cell, told[1])
+            arrays[name][cell] = told[1]
+    return arrays, None
+
+
+def moments_of(ranges, order, lengths):
+    """All moments of a nest, in the order of its items, as dicts from vars to numbers."""
+    bounds = {var: (sizes_of([begin], lengths)[0], sizes_of([end], lengths)[0]) for var, begin, end in ranges}
+    moments = [{}]
+    for item in order:
+        begin, end = bounds[item[1]]
+        going = []
+        for moment in moments:
+            if item[0] == "inner":
+                first = moment["outer " + item[1]]
+                going.extend({**moment, item[1]: at} for at in range(first, min(first + item[2], end)))
+            elif item[0] == "outer":
+                going.extend({**moment, "outer " + item[1]: at} for at in range(begin, end, item[2]))
+            else:
+                going.extend({**moment, item[1]: at} for at in range(begin, end))
+        moments = going
+    return moments
+
+
+def gone_through(text, program, lengths, inputs, lanes=1):
+    """Goes through a program's nests, and tells (made, troubles): made a dict from (name, cell) to what its term came to;
+    troubles a list of cells made twice, and of asks for what has not been made or has been written over."""
+    held = {(name, cell): ((name, cell), worth) for name, array in inputs.items() for cell, worth in array.items()}
+    nests, places = program
+    places = {**dict(places), **{name: name for name in inputs}}
+    made, troubles = {}, []
+
+    def ask(name, cell):
+        found = held.get((places[name] if name not in inputs else name, cell))
+        if found is None or found[0] != (name, cell):
+            troubles.append(("asked", name, cell))
+            return None
+        return found[1]
+
+    for ranges, order, wide, makes in nests:
+        for moments in side_by_side(moments_of(ranges, order, lengths), order, lanes if wide else 1):
+            for name, term in makes:
+                told = []
+                for moment in moments:
+                    cell = tuple(moment[var] for var, _, _ in ranges)
+                    if (name, cell) in made:
+                        troubles.append(("twice", name, cell))
+                    told.append((cell, worth_at(term, {**lengths, **moment}, ask, name=name, cell=cell)[0]))
+                for cell, found in told:
+                    made[(name, cell)] = found
+                    held[(places[name], cell)] = ((name, cell), found[1] if found[0] == "worth" else None)
+    return made, troubles
+
+
+def side_by_side(moments, order, lanes):
+    """Moments in lists of so many that differ in the last item's var alone."""
+    if lanes == 1:
+        return [[moment] for moment in moments]
+    rows = {}
+    for moment in moments:
+        key = tuple(sorted((var, at) for var, at in moment.items() if var != order[-1][1]))
+        rows.setdefault(key, []).append(moment)
+    return [row[at:at + lanes] for row in rows.values() for at in range(0, len(row), lanes)]
