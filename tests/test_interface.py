@@ -21,6 +21,17 @@ FUNCTIONS = {
     "shapes": ("wishes_of(text)", "fits(text)", "least_lengths(text)", "look_at_fit(text)", "shapes_by(text)"),
     "rules": ("rule_term(text, name, cell, *, around=0)", "is_safe_name(text, name)", "worth_at(term, numbers, ask, *, name=None, cell=())"),
     "plain": ("plain_of(text, lengths, inputs)",),
+    "programs": ("plain_program(text)",),
+    "turns": ("turned(text, program, turn)", "turned_all(text, turns)", "is_joined(text, thing)"),
+    "looker": ("lets(text, thing)",),
+    "blocks": ("foretold(asks, *, block=4, within=4)",),
+}
+# By each file and class what it is made of, and its methods.
+CLASSES = {
+    ("blocks", "Blocks(size, *, block=4, within=4)"): (
+        "write(self, at, worth)", "read(self, at)", "seen(self, at)", "flush(self)", "within(self)", "written(self)", "worths(self)", "counts(self)", "sizes(self)", "twin(self)",
+        "__eq__(self, other)", "__len__(self)",
+    ),
 }
 REFUSALS = (
     "CellError", "NoText", "NoTurn", "NoLengths", "NoInputs", "NoFit", "NoLanes", "NoSigns", "NoStop", "NoOrder", "NoTerm", "NoWorth", "NoProgram", "NoRow",
@@ -38,6 +49,16 @@ class Interface(unittest.TestCase):
                 self.assertEqual(name + str(inspect.signature(found)), each)
                 self.assertEqual(found.__module__, f"everycell.{file}")
                 self.assertTrue(inspect.isfunction(found))
+
+    def test_each_class_stands_in_its_file_with_its_own_methods(self):
+        for (file, each), methods in CLASSES.items():
+            name = each.partition("(")[0]
+            found = getattr(importlib.import_module(f"everycell.{file}"), name)
+            self.assertEqual(name + str(inspect.signature(found)), each)
+            self.assertEqual(found.__module__, f"everycell.{file}")
+            for method in methods:
+                own = vars(found)[method.partition("(")[0]]
+                self.assertEqual(method.partition("(")[0] + str(inspect.signature(own)), method)
 
     def test_each_refusal_stands_in_errors(self):
         module = importlib.import_module("everycell.errors")

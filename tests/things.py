@@ -4,9 +4,11 @@ that fit make, by the document's words alone, for tests to hold the program besi
 from fractions import Fraction
 from itertools import product
 
-from everycell.errors import NoText
+from everycell.errors import NoText, NoTurn, TooMany
+from everycell.programs import plain_program
 from everycell.rules import worth_at
 from everycell.terms import added, is_from_nought, taken
+from everycell.turns import turned
 
 GREAT = 10 ** 40 + 7
 # The greatest number that is read where it is written.
@@ -578,3 +580,30 @@ def side_by_side(moments, order, lanes):
         key = tuple(sorted((var, at) for var, at in moment.items() if var != order[-1][1]))
         rows.setdefault(key, []).append(moment)
     return [row[at:at + lanes] for row in rows.values() for at in range(0, len(row), lanes)]
+
+
+def any_turn(chance, program):
+    """A turn by chance of a program, that may be one that it doesn't take."""
+    nests, places = program
+    names = [name for name, _ in places] or ["a"]
+    number = chance.randrange(len(nests)) if nests else 0
+    ranges, order = nests[number][:2] if nests else ((), ())
+    var, begin, end = chance.choice(ranges) if ranges else ("i0", NOUGHT, NOUGHT)
+    return chance.choice([
+        ("fuse", chance.choice(names)), ("exchange", number, tuple(chance.sample(order, len(order)))), ("tile", number, var, chance.randint(1, 4)),
+        ("split", number, var, chance.choice([begin, end, *LENGTHS])), ("together", number), ("carry", chance.choice(names)), ("wide", number),
+        ("share", chance.choice(names), chance.choice(names)),
+    ])
+
+
+def any_turned(chance, text, many):
+    """Turns by chance that the plain program of a text takes, of so many that were tried, and what they tell."""
+    turns, program = [], plain_program(text)
+    for _ in range(many):
+        turn = any_turn(chance, program)
+        try:
+            program = turned(text, program, turn)
+            turns.append(turn)
+        except (NoTurn, TooMany):
+            pass
+    return turns, program
