@@ -1,12 +1,19 @@
-"""Arrays: lengths and inputs looked at, and the cells of names by lengths."""
+"""Arrays: lengths, inputs, names and cells looked at, and the cells of names by lengths."""
 
-from everycell.errors import NoInputs, NoLengths
-from everycell.shapes import shapes_in
+from everycell.errors import NoCell, NoInputs, NoLengths, NoName
+from everycell.shapes import look_at_fit, shapes_in
 from everycell.terms import worth_of
 from everycell.texts import letters_of
 from everycell.worths import is_whole, is_worth, kind_of_worth
 
 MOST_LONG = 40
+
+
+def look_at_arrays(text, lengths, inputs):
+    """Refuses a text that doesn't fit, then lengths and inputs that are none of it."""
+    look_at_fit(text)
+    look_at_lengths(text, lengths)
+    look_at_inputs(text, lengths, inputs)
 
 
 def look_at_lengths(text, lengths):
@@ -28,6 +35,19 @@ def look_at_inputs(text, lengths, inputs):
             raise NoInputs(name)
 
 
+def look_at_name(sizes, name):
+    """Refuses, with NoName, what is none of the names that have these sizes."""
+    if not isinstance(name, str) or name not in sizes:
+        raise NoName(name)
+
+
+def look_at_cell(sizes, name, cell):
+    """Refuses, with NoName, what is no name, then, with NoCell, what is no cell of it."""
+    look_at_name(sizes, name)
+    if not is_cell(cell, sizes[name]):
+        raise NoCell(name, cell)
+
+
 def sizes_by(text, lengths):
     """Tells a dict from a text's names to tuples, how long each axis is by lengths."""
     return {name: _sizes(shape, lengths) for name, shape in shapes_in(text).items()}
@@ -39,6 +59,21 @@ def cells_within(sizes):
     for size in sizes:
         cells = [(*cell, at) for cell in cells for at in range(size)]
     return cells
+
+
+def is_cell(thing, sizes):
+    """Tells of anything whether it is a cell of an array of these sizes."""
+    if not isinstance(thing, tuple) or len(thing) != len(sizes):
+        return False
+    return all([is_whole(at) and 0 <= at < size for at, size in zip(thing, sizes)])
+
+
+def many_cells(sizes):
+    """Tells how many cells an array of these sizes has."""
+    many = 1
+    for size in sizes:
+        many *= size
+    return many
 
 
 def _sizes(shape, lengths):
@@ -54,17 +89,7 @@ def _is_array(thing, kind, sizes):
     """Tells of anything whether it is a dict from just all cells of these sizes to worths of a kind."""
     if not isinstance(thing, dict):
         return False
-    many = 1
-    for size in sizes:
-        many *= size
     # So many that all are cells are all of them: no need to go through the cells, which may be far more.
-    if len(thing) != many or not all([_is_cell(cell, sizes) for cell in thing]):
+    if len(thing) != many_cells(sizes) or not all([is_cell(cell, sizes) for cell in thing]):
         return False
     return all([is_worth(worth) and kind_of_worth(worth) == kind for worth in thing.values()])
-
-
-def _is_cell(thing, sizes):
-    """Tells of anything whether it is a cell of an array of these sizes."""
-    if not isinstance(thing, tuple) or len(thing) != len(sizes):
-        return False
-    return all([is_whole(at) and 0 <= at < size for at, size in zip(thing, sizes)])

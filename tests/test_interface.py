@@ -25,12 +25,25 @@ FUNCTIONS = {
     "turns": ("turned(text, program, turn)", "turned_all(text, turns)", "is_joined(text, thing)"),
     "looker": ("lets(text, thing)",),
     "blocks": ("foretold(asks, *, block=4, within=4)",),
+    "machine": ("foretold_rows(text, program, lengths, *, lanes=1)",),
+    "whence": (
+        "outcomes_of(text, lengths, inputs, name)", "near(text, lengths, inputs, name, cell)", "through(text, lengths, inputs, name, cell)", "whither(text, lengths, inputs, name, cell)",
+        "way(text, lengths, inputs, name, cell, *, of, at)", "lets_way(text, lengths, inputs, thing)",
+    ),
 }
 # By each file and class what it is made of, and its methods.
 CLASSES = {
     ("blocks", "Blocks(size, *, block=4, within=4)"): (
         "write(self, at, worth)", "read(self, at)", "seen(self, at)", "flush(self)", "within(self)", "written(self)", "worths(self)", "counts(self)", "sizes(self)", "twin(self)",
         "__eq__(self, other)", "__len__(self)",
+    ),
+    ("machine", "Machine(text, program, lengths, inputs, *, lanes=1, block=4, within=4)"): (
+        "step(self)", "run(self)", "is_over(self)", "fault(self)", "counts(self)", "state(self, name, cell)", "worth(self, name, cell)", "layers(self)", "cells(self, name)", "array(self, name)", "twin(self)",
+        "__len__(self)",
+    ),
+    ("house", "House(text, lengths, inputs)"): (
+        "change(self, name, cell, worth)", "begin_with(self, lengths, inputs)", "text_is(self, text)", "back(self)", "text(self)", "lengths(self)", "inputs(self)", "array(self, name)", "worth(self, name, cell)",
+        "how(self, name, cell)", "fault(self)", "made(self)", "twin(self)", "__eq__(self, other)", "__len__(self)",
     ),
 }
 REFUSALS = (

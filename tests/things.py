@@ -4,10 +4,12 @@ that fit make, by the document's words alone, for tests to hold the program besi
 from fractions import Fraction
 from itertools import product
 
-from everycell.errors import NoText, NoTurn, TooMany
+from everycell.errors import NoCell, NoFit, NoInputs, NoLengths, NoName, NoText, NoTurn, TooMany
 from everycell.programs import plain_program
 from everycell.rules import worth_at
+from everycell.signs import read
 from everycell.terms import added, is_from_nought, taken
+from everycell.texts import letters_of
 from everycell.turns import turned
 
 GREAT = 10 ** 40 + 7
@@ -225,6 +227,61 @@ def assert_no_text_first(case, ask):
         with case.assertRaises(NoText) as caught:
             ask(thing)
         case.assertEqual((caught.exception.part, caught.exception.number), (part, number))
+
+
+# What fits, and what doesn't, for a def that takes a text, lengths and inputs.
+UNFIT = read("input a number n\ninput b number m\nx = map @0 of a a\ny = map @0 of a b\nz = map @0 of a b")
+FIT = read("input a number n\ninput t truth m n\ninput s number\nx = map plus @0 @0 of a\ny = count 0 of k")
+FIT_LENGTHS = {"k": 1, "m": 2, "n": 1}
+FIT_INPUTS = {"a": {(0,): (3, 1)}, "t": {(0, 0): True, (1, 0): False}, "s": {(): (0, 1)}}
+
+
+def refused(case, error, ask):
+    with case.assertRaises(error) as caught:
+        ask()
+    return caught.exception
+
+
+def assert_arrays_looked_at(case, ask):
+    """A def of a text, lengths and inputs refuses what is none, in this order, as 5.1 tells."""
+    for left in ((None, None), ({}, {}), (FIT_LENGTHS, FIT_INPUTS)):
+        assert_no_text_first(case, lambda thing: ask(thing, *left))
+        case.assertEqual(refused(case, NoFit, lambda: ask(UNFIT, *left)).row, 1)
+    assert_no_lengths(case, lambda lengths: ask(FIT, lengths, None))
+    for inputs, name in (
+        (None, None), ({}, None), ({**FIT_INPUTS, "x": {(0,): (3, 1)}}, None), ({"s": None, "t": None, "a": None}, "a"), ({**FIT_INPUTS, "s": {}, "t": {}}, "t"), ({**FIT_INPUTS, "s": {(): True}}, "s"),
+        ({**FIT_INPUTS, "a": {(0,): (2, 4)}}, "a"), ({**FIT_INPUTS, "a": {(False,): (2, 1)}}, "a"), ({**FIT_INPUTS, "t": {(0, 0): (1, 1), (1, 0): True}}, "t"), ({**FIT_INPUTS, "a": {(0,): (3, 1), (1,): (3, 1)}}, "a"),
+    ):
+        case.assertEqual(refused(case, NoInputs, lambda: ask(FIT, FIT_LENGTHS, inputs)).name, name)
+    for thing in many_things():
+        case.assertIsNone(refused(case, NoInputs, lambda: ask(FIT, FIT_LENGTHS, thing)).name)
+        case.assertEqual(refused(case, NoInputs, lambda: ask(FIT, FIT_LENGTHS, {**FIT_INPUTS, "t": thing})).name, "t")
+
+
+def assert_no_lengths(case, ask):
+    """A def of lengths of FIT refuses what is none."""
+    for thing in many_things() + [{**FIT_LENGTHS, "z": 1}, {"k": 1, "m": 2}, {"k": 1, "m": 2, "z": 1}]:
+        case.assertIsNone(refused(case, NoLengths, lambda: ask(thing)).name)
+    for thing in many_things() + [41, -1]:
+        if not (type(thing) is int and 0 <= thing <= 40):
+            case.assertEqual(refused(case, NoLengths, lambda: ask({"n": thing, "m": thing, "k": 1})).name, "m")
+
+
+def assert_no_name(case, ask, more=()):
+    """A def of a name refuses what is none, of any kind."""
+    for thing in many_things() + ["q", "A", ("a",), ["a"], {"a": 1}, *more]:
+        case.assertIs(refused(case, NoName, lambda: ask(thing)).name, thing)
+
+
+def assert_no_cell(case, ask, name, sizes):
+    """A def of a cell refuses what is none of the cells of a name of these sizes, of any kind."""
+    near = [(*[0] * (len(sizes) + 1),), sizes, [*[0] * len(sizes)], 0, "0", *[(*[0] * at, wrong, *[0] * (len(sizes) - at - 1)) for at in range(len(sizes)) for wrong in (-1, False, None, "0", (0,), [])]]
+    for thing in [thing for thing in many_things() if thing != ()] + near + ([()] if sizes else []):
+        if thing == () and sizes == () or isinstance(thing, tuple) and thing in cells_of(sizes) and not any(isinstance(at, bool) for at in thing):
+            continue
+        found = refused(case, NoCell, lambda: ask(thing))
+        case.assertEqual(found.name, name)
+        case.assertIs(found.cell, thing)
 
 
 # Texts by chance that fit, and what they make.
@@ -489,13 +546,16 @@ def value_of_put(deed, cell, shapes, lengths, ask):
     return far
 
 
-def outcomes(text, known, lengths, inputs):
-    """What each cell of each name comes to, whatever faults ahead: a worth, ("fault", word) or ("lost", name, cell)."""
+def told_and_asked(text, known, lengths, inputs):
+    """By each name and cell a tuple: what it comes to, whatever faults ahead, a worth, ("fault", word) or
+    ("lost", name, cell); and the cells that its rule asks for, in order, each once."""
     shapes = {name: shape for name, (_, shape) in known.items()}
-    told = {name: {cell: ("worth", inputs[name][cell]) for cell in cells_of(sizes_of(shapes[name], lengths))} for name, _, _ in text[0]}
+    told = {name: {cell: (("worth", inputs[name][cell]), []) for cell in cells_of(sizes_of(shapes[name], lengths))} for name, _, _ in text[0]}
+    asked = {}
 
     def ask(name, cell):
-        found = told[name][cell]
+        asked[(name, cell)] = True
+        found = told[name][cell][0]
         if found[0] != "worth":
             raise Faulted("lost", name, cell)
         return value_of(found[1])
@@ -503,11 +563,23 @@ def outcomes(text, known, lengths, inputs):
     for name, deed in text[1]:
         told[name] = {}
         for cell in cells_of(sizes_of(shapes[name], lengths)):
+            asked.clear()
             try:
-                told[name][cell] = ("worth", worth_of_value(value_of_cell(deed, cell, shapes, lengths, ask)))
+                found = ("worth", worth_of_value(value_of_cell(deed, cell, shapes, lengths, ask)))
             except Faulted as fault:
-                told[name][cell] = fault.args
+                found = fault.args
+            told[name][cell] = (found, list(asked))
     return told
+
+
+def outcomes(text, known, lengths, inputs):
+    """What each cell of each name comes to, whatever faults ahead."""
+    told = told_and_asked(text, known, lengths, inputs)
+    return {name: {cell: found for cell, (found, _) in array.items()} for name, array in told.items()}
+
+
+def any_lengths(chance, text, most=3):
+    return {letter: chance.randint(0, most) for letter in letters_of(text)}
 
 
 def plain_by_words(text, known, lengths, inputs):
