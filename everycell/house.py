@@ -94,11 +94,7 @@ class House:
 
     def fault(self):
         """Tells the first fault as the plain reader does, or None."""
-        for name in self._now.deeds:
-            for cell, told in self._now.told[name].items():
-                if told[0] == "fault":
-                    return (name, cell, told[1])
-        return None
+        return self._now.first_fault()
 
     def made(self):
         """Tells how many cells of rows were made so far."""

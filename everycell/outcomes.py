@@ -51,6 +51,14 @@ class Outcomes:
             told = self.told[name][cell]
         return way
 
+    def first_fault(self):
+        """Tells the first fault of all rows, a tuple (name, cell, word), or None."""
+        for name in self.deeds:
+            for cell, told in self.told[name].items():
+                if told[0] == "fault":
+                    return (name, cell, told[1])
+        return None
+
     def make_all(self):
         """Makes all rows that weren't made."""
         for name in self.deeds:

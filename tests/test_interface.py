@@ -30,6 +30,8 @@ FUNCTIONS = {
         "outcomes_of(text, lengths, inputs, name)", "near(text, lengths, inputs, name, cell)", "through(text, lengths, inputs, name, cell)", "whither(text, lengths, inputs, name, cell)",
         "way(text, lengths, inputs, name, cell, *, of, at)", "lets_way(text, lengths, inputs, thing)",
     ),
+    "faults": ("all_told(text, lengths, inputs)", "first_fault(text, lengths, inputs)", "root_of(text, lengths, inputs, name, cell)"),
+    "naming": ("named(text, *, names=None, letters=None)", "ordered(text, order)", "led(thing, names)"),
 }
 # By each file and class what it is made of, and its methods.
 CLASSES = {
@@ -45,6 +47,11 @@ CLASSES = {
         "change(self, name, cell, worth)", "begin_with(self, lengths, inputs)", "text_is(self, text)", "back(self)", "text(self)", "lengths(self)", "inputs(self)", "array(self, name)", "worth(self, name, cell)",
         "how(self, name, cell)", "fault(self)", "made(self)", "twin(self)", "__eq__(self, other)", "__len__(self)",
     ),
+    ("debugger", "Debugger(text, program, lengths, inputs, *, lanes=1, block=4, within=4)"): (
+        "stop_at(self, thing)", "drop(self, number)", "back(self)", "watch(self, name, cell)", "stops(self)", "step(self)", "go(self)", "watched(self)", "worth(self, name, cell)", "state(self, name, cell)",
+        "array(self, name)", "fault(self)", "counts(self)", "is_over(self)", "machine_now(self)", "twin(self)", "__len__(self)",
+    ),
+    ("desk", "Desk()"): ("say(self, row)",),
 }
 REFUSALS = (
     "CellError", "NoText", "NoTurn", "NoLengths", "NoInputs", "NoFit", "NoLanes", "NoSigns", "NoStop", "NoOrder", "NoTerm", "NoWorth", "NoProgram", "NoRow",
