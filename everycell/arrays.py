@@ -55,6 +55,9 @@ def sizes_by(text, lengths):
 
 def cells_within(sizes):
     """Tells a list of all cells of an array of these sizes, in the order of tuples."""
+    # Else the begins of cells would be gone through, which may be many where there is no cell at all.
+    if 0 in sizes:
+        return []
     cells = [()]
     for size in sizes:
         cells = [(*cell, at) for cell in cells for at in range(size)]

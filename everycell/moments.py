@@ -45,6 +45,9 @@ def _cells_at_once(bounds, order, lanes):
     """Tells a list of lists of cells, so many at most of which only the last item's numbers are others."""
     if not order:
         return [[()]]
+    # Else the items ahead of the empty one would be gone through for nothing.
+    if any([begin == end for begin, end in bounds]):
+        return []
     going = [bounds]
     for item in order[:-1]:
         axis = axis_of(item[1])

@@ -9,12 +9,9 @@ from everycell.programs import plain_program
 from everycell.signs import read
 from everycell.turns import turned_all
 from tests.things import (
-    FIT, FIT_INPUTS, FIT_LENGTHS, any_fitting, any_inputs, any_lengths, any_turned, assert_arrays_looked_at, assert_no_cell, assert_no_name, assert_no_text_first, cells_of, many_things, refused,
+    FIT, FIT_INPUTS, FIT_LENGTHS, any_fitting, any_inputs, any_lengths, any_turned, assert_arrays_looked_at, assert_no_cell, assert_no_name, assert_no_text_first, cells_of, many_things,
+    refused, row_of, worth_or_fault,
 )
-
-
-def row_of(*worths):
-    return {(at,): (worth, 1) for at, worth in enumerate(worths)}
 
 
 TEXT = read("input b number n\nx = map over 12 @0 of b\ny = map plus @0 1 of x\nz = map times @0 @0 of y\nc = count 0 of m\nf = fold plus @0 @1 from 0 of b 0")
@@ -36,11 +33,7 @@ def machine_of(made, names=NAMES):
         array = made.array(name)
         told.append((name, list(array.items())))
         for cell in cells_of((2,)) if name in "bxyz" else [()] if name == "f" else []:
-            try:
-                found = made.worth(name, cell)
-            except Faulty as fault:
-                found = (fault.name, fault.cell, fault.word)
-            told.append((made.state(name, cell), found))
+            told.append((made.state(name, cell), worth_or_fault(made, name, cell)))
     return told
 
 

@@ -7,12 +7,8 @@ from everycell.faults import all_told, first_fault, root_of
 from everycell.plain import plain_of
 from everycell.signs import read
 from tests.things import (
-    FIT, FIT_INPUTS, FIT_LENGTHS, any_fitting, any_inputs, any_lengths, assert_arrays_looked_at, assert_no_cell, assert_no_name, plain_by_words, refused, told_and_asked,
+    FIT, FIT_INPUTS, FIT_LENGTHS, any_fitting, any_inputs, any_lengths, assert_arrays_looked_at, assert_no_cell, assert_no_name, plain_by_words, refused, row_of, told_and_asked,
 )
-
-
-def row_of(*worths):
-    return {(at,): worth if worth is None or isinstance(worth, (bool, tuple)) else (worth, 1) for at, worth in enumerate(worths)}
 
 
 TEXT = read("input a number n\ninput k number n\nd = map over 1 @0 of a\ne = map plus @0 1 of d\np = pick e k\nf = fold plus @0 @1 from 0 of p 0\nu = put a k k\nz = map over @0 0 of k\nc = count 0 of n")

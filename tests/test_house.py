@@ -8,12 +8,9 @@ from everycell.plain import plain_of
 from everycell.signs import read
 from everycell.whence import outcomes_of, whither
 from tests.things import (
-    FIT, FIT_INPUTS, FIT_LENGTHS, NO_TEXTS, any_fitting, any_inputs, any_lengths, any_worth, assert_arrays_looked_at, assert_no_cell, assert_no_name, many_things, refused,
+    FIT, FIT_INPUTS, FIT_LENGTHS, NO_TEXTS, any_fitting, any_inputs, any_lengths, any_worth, assert_arrays_looked_at, assert_no_cell, assert_no_name, many_things, refused, row_of,
+    worth_or_fault,
 )
-
-
-def row_of(*worths):
-    return {(at,): worth if isinstance(worth, (bool, tuple)) else (worth, 1) for at, worth in enumerate(worths)}
 
 
 INPUTS = "input a number n\ninput t truth n\n"
@@ -34,11 +31,7 @@ def told_by(made):
     hows = {}
     for name in names:
         for cell in outcomes_of(text, lengths, inputs, name):
-            try:
-                found = made.worth(name, cell)
-            except Faulty as fault:
-                found = (fault.name, fault.cell, fault.word)
-            hows[(name, cell)] = (made.how(name, cell), found)
+            hows[(name, cell)] = (made.how(name, cell), worth_or_fault(made, name, cell))
     return (text, lengths, inputs, [list(made.array(name).items()) for name in names], made.fault(), hows)
 
 

@@ -11,17 +11,9 @@ from everycell.rules import worth_at
 from everycell.signs import read
 from everycell.turns import turned_all
 from tests.things import (
-    FIT, FIT_INPUTS, FIT_LENGTHS, any_fitting, any_inputs, any_lengths, any_turned, assert_arrays_looked_at, assert_no_cell, assert_no_lengths, assert_no_name, assert_no_text_first, cells_of,
-    many_things, moments_of, outcomes, plain_by_words, refused, side_by_side, sizes_of,
+    FIT, FIT_INPUTS, FIT_LENGTHS, any_fitting, any_inputs, any_lengths, any_turned, assert_arrays_looked_at, assert_no_cell, assert_no_lengths, assert_no_name, assert_no_text_first,
+    cells_of, many_things, moments_of, outcomes, plain_by_words, refused, row_of, side_by_side, sizes_of, table_of, worth_or_fault,
 )
-
-
-def row_of(*worths):
-    return {(at,): worth if isinstance(worth, (bool, tuple)) else (worth, 1) for at, worth in enumerate(worths)}
-
-
-def table_of(*rows):
-    return {(row, at): (worth, 1) for row, worths in enumerate(rows) for at, worth in enumerate(worths)}
 
 
 def text_of(*rows):
@@ -51,11 +43,7 @@ def all_of(made, names):
     for name in names:
         told.append((name, list(made.array(name).items()), made.cells(name)))
         for cell in made.cells(name):
-            try:
-                found = made.worth(name, cell)
-            except Faulty as fault:
-                found = (fault.name, fault.cell, fault.word)
-            told.append((made.state(name, cell), found))
+            told.append((made.state(name, cell), worth_or_fault(made, name, cell)))
     return told
 
 

@@ -6,17 +6,7 @@ from everycell.errors import NoFit, NoInputs, NoLengths
 from everycell.plain import plain_of
 from everycell.signs import read
 from everycell.texts import letters_of
-from tests.things import any_fitting, any_inputs, assert_no_text_first, cells_of, many_things, plain_by_words
-
-
-def row_of(*worths):
-    """An array of one axis; a whole number stands for the number."""
-    return {(at,): worth if isinstance(worth, (bool, tuple)) else (worth, 1) for at, worth in enumerate(worths)}
-
-
-def table_of(*rows):
-    return {(row, at): worth if isinstance(worth, (bool, tuple)) else (worth, 1) for row, worths in enumerate(rows) for at, worth in enumerate(worths)}
-
+from tests.things import any_fitting, any_inputs, assert_no_text_first, cells_of, many_things, plain_by_words, row_of, table_of
 
 INPUTS = "input a number n m\ninput b number n m\ninput t truth n m\ninput u number n\ninput k number n\ninput s number"
 LENGTHS = {"n": 2, "m": 3}

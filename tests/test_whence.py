@@ -6,12 +6,8 @@ from everycell.errors import NoCell, NoName
 from everycell.signs import read
 from everycell.whence import lets_way, near, outcomes_of, through, way, whither
 from tests.things import (
-    FIT, FIT_INPUTS, FIT_LENGTHS, any_fitting, any_inputs, any_lengths, assert_arrays_looked_at, assert_no_cell, assert_no_name, many_things, refused, told_and_asked,
+    FIT, FIT_INPUTS, FIT_LENGTHS, any_fitting, any_inputs, any_lengths, assert_arrays_looked_at, assert_no_cell, assert_no_name, many_things, refused, row_of, told_and_asked,
 )
-
-
-def row_of(*worths):
-    return {(at,): worth if isinstance(worth, (bool, tuple)) else (worth, 1) for at, worth in enumerate(worths)}
 
 
 TEXT = read(

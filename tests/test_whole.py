@@ -214,5 +214,20 @@ class LeastLengths(unittest.TestCase):
                     self.assertEqual(list(arrays[name]), cells_of(tuple(const + sum(many * lengths[letter] for letter, many in parts) for const, parts in shapes[name])))
 
 
+class NoCellsAtAll(unittest.TestCase):
+    def test_long_axes_beside_one_of_nought_take_no_time(self):
+        text = read("input a number 4000 4000 n\nx = map plus @0 1 of a\nr = run plus @0 @1 from 0 of x 1\nt = turn r 2,0,1")
+        lengths, inputs = {"n": 0}, {"a": {}}
+        self.assertEqual(plain_of(text, lengths, inputs), ({"a": {}, "x": {}, "r": {}, "t": {}}, None))
+        program = turned_all(text, [("carry", "r"), ("tile", 0, "i1", 3), ("tile", 0, "i2", 3), ("wide", 0)])
+        made = Machine(text, program, lengths, inputs, lanes=3)
+        self.assertEqual((made.run(), made.array("t"), made.counts(), foretold_rows(text, program, lengths, lanes=3)), (0, {}, (0, 0, 0, 0, 0), (0, 0, 0)))
+        house = House(text, lengths, inputs)
+        self.assertEqual((house.made(), house.array("t"), outcomes_of(text, lengths, inputs, "r"), all_told(text, lengths, inputs)[1:]), (0, {}, {}, ([], [])))
+        debugger = Debugger(text, program, lengths, inputs)
+        debugger.stop_at(("name", "t"))
+        self.assertEqual((debugger.go(), debugger.array("x")), (("end",), {}))
+
+
 if __name__ == "__main__":
     unittest.main()

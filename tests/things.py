@@ -4,7 +4,7 @@ that fit make, by the document's words alone, for tests to hold the program besi
 from fractions import Fraction
 from itertools import product
 
-from everycell.errors import NoCell, NoFit, NoInputs, NoLengths, NoName, NoText, NoTurn, TooMany
+from everycell.errors import Faulty, NoCell, NoFit, NoInputs, NoLengths, NoName, NoText, NoTurn, TooMany
 from everycell.programs import plain_program
 from everycell.rules import worth_at
 from everycell.signs import read
@@ -234,6 +234,24 @@ UNFIT = read("input a number n\ninput b number m\nx = map @0 of a a\ny = map @0 
 FIT = read("input a number n\ninput t truth m n\ninput s number\nx = map plus @0 @0 of a\ny = count 0 of k")
 FIT_LENGTHS = {"k": 1, "m": 2, "n": 1}
 FIT_INPUTS = {"a": {(0,): (3, 1)}, "t": {(0, 0): True, (1, 0): False}, "s": {(): (0, 1)}}
+
+
+def row_of(*worths):
+    """An array of one axis; a whole number stands for the number."""
+    return {(at,): (worth, 1) if type(worth) is int else worth for at, worth in enumerate(worths)}
+
+
+def table_of(*rows):
+    """An array of two axes."""
+    return {(row, at): (worth, 1) if type(worth) is int else worth for row, worths in enumerate(rows) for at, worth in enumerate(worths)}
+
+
+def worth_or_fault(made, name, cell):
+    """The worth that an object tells of a cell, or the values of the refusal."""
+    try:
+        return made.worth(name, cell)
+    except Faulty as fault:
+        return (fault.name, fault.cell, fault.word)
 
 
 def refused(case, error, ask):
