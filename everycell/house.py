@@ -152,8 +152,7 @@ class House:
     def __eq__(self, other):
         if not isinstance(other, House):
             return False
-        is_alike = self._text == other._text and self._lengths == other._lengths
-        return is_alike and self.inputs() == other.inputs()
+        return self._text == other._text and self._lengths == other._lengths and self.inputs() == other.inputs()
 
     def __len__(self):
         return len(self._ahead)
