@@ -8,7 +8,7 @@ from everycell.machine import Machine
 from everycell.programs import plain_program
 from everycell.signs import read, shown
 from everycell.whence import near, through, whither
-from tests.things import any_fitting, any_inputs, any_lengths, any_worth, many_things, refused
+from tests.things import any_fitting, any_inputs, any_lengths, any_worth, many_things, refused, shown_cell, shown_cells, shown_worth
 
 SIGNS = "input a number n; input t truth n; input s number; d = map over 1 @0 of a; w = where t d a; f = fold plus @0 @1 from 0 of w 0; g = spread w 0 2; c = count 0 of m"
 BEGIN = "begin x m=2,n=3 a=1,0,4;t=no,no,yes;s=-1/2"
@@ -351,20 +351,6 @@ class ByChance(unittest.TestCase):
                     self.assertEqual(made.say(f"whither q {name} {shown_cell(cell)}"), shown_cells(whither(*all_of, name, cell)))
         machine.run()
         self.assertEqual(made.say("run q 2 3 2"), " ".join(str(many) for many in machine.counts()))
-
-
-def shown_worth(worth):
-    if isinstance(worth, bool):
-        return "yes" if worth else "no"
-    return str(worth[0]) if worth[1] == 1 else f"{worth[0]}/{worth[1]}"
-
-
-def shown_cell(cell):
-    return ",".join(map(str, cell)) if cell else "-"
-
-
-def shown_cells(cells):
-    return " ".join(f"{name}:{shown_cell(cell)}" for name, cell in cells) if cells else "-"
 
 
 if __name__ == "__main__":

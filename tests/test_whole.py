@@ -18,8 +18,7 @@ from everycell.signs import read, shown
 from everycell.texts import deed_of, kinds_by, letters_of, look_at_text, names_of, ranks_by, sources_of
 from everycell.turns import is_joined, turned, turned_all
 from everycell.whence import lets_way, near, outcomes_of, through, way, whither
-from tests.things import any_fitting, any_inputs, any_lengths, any_turned, cells_of, outcomes, refused
-from tests.test_desk import shown_cell, shown_worth
+from tests.things import any_fitting, any_inputs, any_lengths, any_turned, cells_of, outcomes, refused, shown_cell, shown_worth
 
 
 def drawn(seed, rows=None):

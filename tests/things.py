@@ -254,6 +254,23 @@ def worth_or_fault(made, name, cell):
         return (fault.name, fault.cell, fault.word)
 
 
+def shown_worth(worth):
+    """How a desk writes a worth."""
+    if isinstance(worth, bool):
+        return "yes" if worth else "no"
+    return str(worth[0]) if worth[1] == 1 else f"{worth[0]}/{worth[1]}"
+
+
+def shown_cell(cell):
+    """How a desk writes a cell."""
+    return ",".join(map(str, cell)) if cell else "-"
+
+
+def shown_cells(cells):
+    """How a desk writes a list of names and cells."""
+    return " ".join(f"{name}:{shown_cell(cell)}" for name, cell in cells) if cells else "-"
+
+
 def refused(case, error, ask):
     with case.assertRaises(error) as caught:
         ask()
